@@ -977,11 +977,16 @@ func TestSystemsAreNeitherChangedNorReadBeyondTheirLength(t *testing.T) {
 }
 
 // span is the memory of a slice, spare capacity included.
-type span struct{ from, to uintptr }
+type span struct {
+	from, to uintptr
+	// memory keeps it from being freed and given to another slice, which would seem to share it.
+	memory unsafe.Pointer
+}
 
 func spanOf[T any](l []T) span {
-	from := uintptr(unsafe.Pointer(unsafe.SliceData(l)))
-	return span{from, from + uintptr(cap(l))*reflect.TypeFor[T]().Size()}
+	memory := unsafe.Pointer(unsafe.SliceData(l))
+	from := uintptr(memory)
+	return span{from, from + uintptr(cap(l))*reflect.TypeFor[T]().Size(), memory}
 }
 
 func spansOf(s impl.Sys) []span {
