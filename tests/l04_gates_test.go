@@ -18,9 +18,7 @@ type outcome struct {
 }
 
 // none reports whether there is no result beside the system.
-func (o outcome) none() bool {
-	return !o.ok && !slices.ContainsFunc(o.lins, func(a impl.Lin) bool { return len(a.L) > 0 })
-}
+func (o outcome) none() bool { return !o.ok && len(o.lins) == 0 }
 
 // plan is what the document says is added, without the help of the package.
 type plan struct {
@@ -84,12 +82,17 @@ type gate struct {
 	model func(p *plan, l []impl.Lin, n int) []impl.Lin
 }
 
-func one(s impl.Sys, a impl.Lin, ok bool) outcome { return outcome{s, []impl.Lin{a}, ok} }
+// one leaves out a zero value beside false, so that nothing is left if there is no result.
+func one(s impl.Sys, a impl.Lin, ok bool) outcome {
+	if !ok && len(a.L) == 0 {
+		return plain(s, ok)
+	}
+	return outcome{s, []impl.Lin{a}, ok}
+}
+
+func many(s impl.Sys, l []impl.Lin, ok bool) outcome { return outcome{s, l, ok} }
 
 func plain(s impl.Sys, ok bool) outcome { return outcome{s, nil, ok} }
-
-// addBits is the index of AddBits in gates.
-const addBits = 3
 
 var gates = []gate{
 	{"AddMul", 2, 0,
@@ -108,10 +111,7 @@ var gates = []gate{
 			return nil
 		}},
 	{"AddBits", 1, 30,
-		func(s impl.Sys, l []impl.Lin, n int) outcome {
-			r, bits, ok := impl.AddBits(s, l[0], n)
-			return outcome{r, bits, ok}
-		},
+		func(s impl.Sys, l []impl.Lin, n int) outcome { return many(impl.AddBits(s, l[0], n)) },
 		func(p *plan, l []impl.Lin, n int) []impl.Lin { return p.bits(l[0], n) }},
 	{"AddZero", 1, 0,
 		func(s impl.Sys, l []impl.Lin, n int) outcome { return one(impl.AddZero(s, l[0])) },
@@ -193,16 +193,13 @@ func expectRefused(t *testing.T, g gate, s impl.Sys, l []impl.Lin, n int, why st
 	if got := g.add(s, l, n); !got.none() || !sameSys(got.s, impl.Sys{}) {
 		t.Errorf("%s(%s, %d) = %s, %v, %v in spite of %s", g.name, about(s), n, about(got.s), got.lins, got.ok, why)
 	}
-	if got := g.add(s, l, n); g.name == "AddBits" && len(got.lins) != 0 {
-		t.Errorf("%s has %d results in spite of %s", g.name, len(got.lins), why)
-	}
 }
 
 // expectFull expects s, zero values and false.
 func expectFull(t *testing.T, g gate, s impl.Sys, l []impl.Lin, n int) {
 	t.Helper()
 	got := g.add(s, l, n)
-	if !got.none() || !sameSys(got.s, s) || g.name == "AddBits" && len(got.lins) != 0 {
+	if !got.none() || !sameSys(got.s, s) {
 		t.Errorf("%s(%s, %d) = %s, %v, %v, want the system unchanged and false", g.name, about(s), n, about(got.s), got.lins, got.ok)
 	}
 }
@@ -228,9 +225,9 @@ func TestGateExamples(t *testing.T) {
 		{plain(impl.AddBool(e, lin(0, 1))), nil, nil, []impl.Con{{A: lin(0, 1)}}},
 		{plain(impl.AddEq(e, x, y)), nil, nil, []impl.Con{{A: lin(1, 1, 2, minus1), B: lin(0, 1)}}},
 		{plain(impl.AddEq(e, x, x)), nil, nil, []impl.Con{{B: lin(0, 1)}}},
-		{gates[addBits].add(e, []impl.Lin{x}, 1), []impl.Lin{lin(3, 1)},
+		{many(impl.AddBits(e, x, 1)), []impl.Lin{lin(3, 1)},
 			[]impl.Hint{bit(x, 0)}, []impl.Con{bool3, {A: lin(1, minus1, 3, 1), B: lin(0, 1)}}},
-		{gates[addBits].add(e, []impl.Lin{lin(0, 5, 2, 3)}, 2), []impl.Lin{lin(3, 1), lin(4, 1)},
+		{many(impl.AddBits(e, lin(0, 5, 2, 3), 2)), []impl.Lin{lin(3, 1), lin(4, 1)},
 			[]impl.Hint{bit(lin(0, 5, 2, 3), 0), bit(lin(0, 5, 2, 3), 1)},
 			[]impl.Con{bool3, bool4, {A: lin(0, prime-5, 2, prime-3, 3, 1, 4, 2), B: lin(0, 1)}}},
 		{one(impl.AddZero(e, x)), []impl.Lin{lin(0, 1, 4, minus1)},
@@ -436,10 +433,9 @@ func TestBitsOfAssignments(t *testing.T) {
 	for _, shift := range shifts {
 		s, x, _ := withInputs(t, shift)
 		for n := 1; n <= 30; n++ {
-			r, bits, ok := impl.AddBits(s, x, n)
-			o := outcome{r, bits, ok}
-			expectInt(t, "the number of bits", len(bits), n)
-			expectInt(t, "the number of constraints", len(r.Cons), n+1)
+			o := many(impl.AddBits(s, x, n))
+			expectInt(t, "the number of bits", len(o.lins), n)
+			expectInt(t, "the number of constraints", len(o.s.Cons), n+1)
 			for _, a := range []int{0, 1, 2, 3, 5, 10, 1<<n - 1, 1<<n - 2, 1 << (n - 1), 1<<(n-1) - 1} {
 				if a < 1<<n {
 					expectMeaning(t, "AddBits", o, inputsFor(shift, a, 7), bitsOf(a, n))
@@ -457,12 +453,12 @@ func TestBitsOfAssignments(t *testing.T) {
 func TestBitsOfAllSmallNumbers(t *testing.T) {
 	s, x, _ := withInputs(t, 0)
 	for n := 1; n <= 4; n++ {
-		r, bits, ok := impl.AddBits(s, x, n)
+		o := many(impl.AddBits(s, x, n))
 		for a := range 40 {
 			if a < 1<<n {
-				expectMeaning(t, "AddBits", outcome{r, bits, ok}, []int{a, 0}, bitsOf(a, n))
+				expectMeaning(t, "AddBits", o, []int{a, 0}, bitsOf(a, n))
 			} else {
-				expectMeaning(t, "AddBits", outcome{r, bits, ok}, []int{a, 0}, nil)
+				expectMeaning(t, "AddBits", o, []int{a, 0}, nil)
 			}
 		}
 	}
@@ -602,9 +598,9 @@ func (m *machine) keep(o outcome, width int, values ...int) {
 }
 
 func (m *machine) bits(x known, n int) []impl.Lin {
-	r, bits, ok := impl.AddBits(m.s, x.a, n)
-	m.keep(outcome{r, bits, ok}, 1, bitsOf(x.n, n)...)
-	return bits
+	o := many(impl.AddBits(m.s, x.a, n))
+	m.keep(o, 1, bitsOf(x.n, n)...)
+	return o.lins
 }
 
 func (m *machine) step() {
