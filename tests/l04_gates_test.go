@@ -54,6 +54,13 @@ func (p *plan) bits(a impl.Lin, n int) []impl.Lin {
 	return bits
 }
 
+func (p *plan) zero(a impl.Lin) impl.Lin {
+	v := p.hint(impl.HtInv, a, lin(), 0)
+	z := weighted(1, lin(0, 1), -1, p.product(a, v))
+	p.con(a, z, lin())
+	return z
+}
+
 // weighted computes j * a + k * b, for j and k of at most 30 bits and a sign, without the help of the package.
 func weighted(j int, a impl.Lin, k int, b impl.Lin) impl.Lin {
 	sums := map[int]int{}
@@ -115,12 +122,7 @@ var gates = []gate{
 		func(p *plan, l []impl.Lin, n int) []impl.Lin { return p.bits(l[0], n) }},
 	{"AddZero", 1, 0,
 		func(s impl.Sys, l []impl.Lin, n int) outcome { return one(impl.AddZero(s, l[0])) },
-		func(p *plan, l []impl.Lin, n int) []impl.Lin {
-			v := p.hint(impl.HtInv, l[0], lin(), 0)
-			z := weighted(1, lin(0, 1), -1, p.product(l[0], v))
-			p.con(l[0], z, lin())
-			return []impl.Lin{z}
-		}},
+		func(p *plan, l []impl.Lin, n int) []impl.Lin { return []impl.Lin{p.zero(l[0])} }},
 	{"AddLess", 2, 29,
 		func(s impl.Sys, l []impl.Lin, n int) outcome { return one(impl.AddLess(s, l[0], l[1], n)) },
 		func(p *plan, l []impl.Lin, n int) []impl.Lin {

@@ -584,8 +584,10 @@ func TestWhatMixesAdd(t *testing.T) {
 	}
 }
 
-func TestWhatMixesAddToEachSystem(t *testing.T) {
-	for _, g := range []gate{mixGate(0), mixGate(2), rootGate(0), rootGate(2)} {
+// expectEachSystem expects what the gates add to valid systems, or the system if there is no room.
+func expectEachSystem(t *testing.T, gates []gate) {
+	t.Helper()
+	for _, g := range gates {
 		p, _ := g.planned(0, slices.Repeat([]impl.Lin{lin()}, g.args), 0)
 		for _, s := range validSystems() {
 			for _, a := range []impl.Lin{lin(), lin(0, 5), lin(s.Ins+len(s.Hints), 1)} {
@@ -598,6 +600,10 @@ func TestWhatMixesAddToEachSystem(t *testing.T) {
 			}
 		}
 	}
+}
+
+func TestWhatMixesAddToEachSystem(t *testing.T) {
+	expectEachSystem(t, []gate{mixGate(0), mixGate(2), rootGate(0), rootGate(2)})
 }
 
 // recomputed replaces the values of the hints from the variable v on by those that the hints have for the values before.
@@ -816,10 +822,12 @@ func TestNoBitsOfNumbersThatAreNotBytes(t *testing.T) {
 	}
 }
 
-func TestMixesOfCombinationsThatAreNotInTheSystem(t *testing.T) {
+// expectOwnVariables expects that the gates refuse combinations that are not valid or contain a variable that the system does not have.
+func expectOwnVariables(t *testing.T, gates []gate) {
+	t.Helper()
 	full := changed(func(s *impl.Sys) { s.Cons = append(s.Cons, make([]impl.Con, maxCons-3)...) })
 	wide := changed(func(s *impl.Sys) { s.Hints = append(s.Hints, oneHints(maxVars-7)...) })
-	for _, g := range mixGates() {
+	for _, g := range gates {
 		for i := range g.args {
 			for _, s := range []impl.Sys{sample(), {}, {Ins: 100}, full, wide} {
 				for _, a := range strangeLins(1 + s.Ins + len(s.Hints)) {
@@ -835,22 +843,34 @@ func TestMixesOfCombinationsThatAreNotInTheSystem(t *testing.T) {
 	}
 }
 
-func TestMixesOfInvalidSystems(t *testing.T) {
+func TestMixesOfCombinationsThatAreNotInTheSystem(t *testing.T) { expectOwnVariables(t, mixGates()) }
+
+func expectInvalidSystemsRefused(t *testing.T, gates []gate) {
+	t.Helper()
 	for _, f := range invalidSystems() {
-		for _, g := range []gate{mixGate(0), mixGate(1), mixGate(maxMsg), rootGate(0), rootGate(1), rootGate(3)} {
+		for _, g := range gates {
 			expectRefused(t, g, f.s, slices.Repeat([]impl.Lin{lin()}, g.args), 0, f.name)
 		}
 	}
 }
 
-func TestMixesUpToTheLimits(t *testing.T) {
-	for _, g := range mixGates() {
+func TestMixesOfInvalidSystems(t *testing.T) {
+	expectInvalidSystemsRefused(t, []gate{mixGate(0), mixGate(1), mixGate(maxMsg), rootGate(0), rootGate(1), rootGate(3)})
+}
+
+// expectLimits expects that the gates add what there is just enough room for, and nothing if one more is needed.
+func expectLimits(t *testing.T, gates []gate) {
+	t.Helper()
+	for _, g := range gates {
 		l := slices.Repeat([]impl.Lin{lin(0, 1)}, g.args)
 		p, _ := g.planned(0, l, 0)
 		h, c := len(p.hints), len(p.cons)
 		for _, ins := range []int{0, 100} {
 			for _, free := range [][2]int{{h, c}, {h + 1, c}, {h, c + 1}, {maxVars - 101, maxCons}} {
 				expectAdded(t, g, systemWithRoom(ins, free[0], free[1]), l, 0)
+			}
+			if h == 0 && c == 0 {
+				continue
 			}
 			for _, free := range [][2]int{{h - 1, c}, {0, c}, {h, c - 1}, {h, 0}, {h - 1, c - 1}, {0, 0}, {1, 1}, {h - 1, maxCons}, {maxVars - 101, c - 1}} {
 				expectFull(t, g, systemWithRoom(ins, free[0], free[1]), l, 0)
@@ -859,9 +879,13 @@ func TestMixesUpToTheLimits(t *testing.T) {
 	}
 }
 
-func TestMixesOfTheLastVariables(t *testing.T) {
+func TestMixesUpToTheLimits(t *testing.T) { expectLimits(t, mixGates()) }
+
+// expectLastVariables expects what is added for combinations of the last variable that leaves room for the gate.
+func expectLastVariables(t *testing.T, gates []gate) {
+	t.Helper()
 	all := fullLin(func(v int) int { return v + 1 })
-	for _, g := range []gate{mixGate(2), mixGate(maxMsg), rootGate(1), rootGate(3)} {
+	for _, g := range gates {
 		p, _ := g.planned(0, slices.Repeat([]impl.Lin{lin()}, g.args), 0)
 		vars := maxVars - len(p.hints)
 		s := systemWithRoom(50, len(p.hints), len(p.cons))
@@ -869,6 +893,10 @@ func TestMixesOfTheLastVariables(t *testing.T) {
 			expectAdded(t, g, s, slices.Repeat([]impl.Lin{a}, g.args), 0)
 		}
 	}
+}
+
+func TestMixesOfTheLastVariables(t *testing.T) {
+	expectLastVariables(t, []gate{mixGate(2), mixGate(maxMsg), rootGate(1), rootGate(3)})
 }
 
 // expectNothing expects zero values and false.
@@ -931,14 +959,16 @@ func TestEmptyAndNilArgumentsOfMixes(t *testing.T) {
 	}
 }
 
-func TestMixCircuitsNeitherChangeNorShareMemory(t *testing.T) {
-	for _, g := range []gate{mixGate(0), mixGate(3), rootGate(0), rootGate(2)} {
+// expectOwnMemory expects that the gates do not change their arguments, nor share memory with them or among their results.
+func expectOwnMemory(t *testing.T, gates []gate) {
+	t.Helper()
+	for _, g := range gates {
 		for _, s := range []impl.Sys{spareSys(), fullSpareSys()} {
 			var l []impl.Lin
 			for i := range g.args {
 				l = append(l, spareArgs()[i%3])
 			}
-			l = spare(l, lin(0, 0), lin(0, 0))
+			l = spare(l, lin(0, 0), lin(-1, 0), lin(-1, 0), lin(-1, 0))
 			before, beforeL := allOf(s), allOfLins(l)
 			spans := append(spansOf(s), spansOf(impl.Sys{Outs: l})...)
 			for range 2 {
@@ -948,13 +978,17 @@ func TestMixCircuitsNeitherChangeNorShareMemory(t *testing.T) {
 			if allOf(s) != before || allOfLins(l) != beforeL {
 				t.Errorf("%s changes an argument", g.name)
 			}
-			if len(s.Cons) < maxCons {
-				expectAdded(t, g, s, l, 0)
-			} else {
+			if p, _ := g.planned(0, l, 0); len(s.Cons)+len(p.cons) > maxCons {
 				expectFull(t, g, s, l, 0)
+			} else {
+				expectAdded(t, g, s, l, 0)
 			}
 		}
 	}
+}
+
+func TestMixCircuitsNeitherChangeNorShareMemory(t *testing.T) {
+	expectOwnMemory(t, []gate{mixGate(0), mixGate(3), rootGate(0), rootGate(2)})
 }
 
 // TestPathsWithSpareCapacity has further elements behind each slice of the path, which nobody may write.
